@@ -34,7 +34,7 @@ func unopened(c *court, at int) bool {
 	if e != api.OK {
 		return true
 	}
-	c.effects[at] = effect
+	c.effects[at-1] = effect
 	if effect && q.Kind == api.ReqPut {
 		line := c.past[q.Name]
 		if line == nil {
@@ -49,7 +49,7 @@ func unopened(c *court, at int) bool {
 // unrequested is rule 3.
 func unrequested(c *court, at int) bool {
 	q := c.order[at-1]
-	if q.Kind != api.ReqPut || !c.effects[at] {
+	if q.Kind != api.ReqPut || !c.effects[at-1] {
 		return false
 	}
 	i, is := c.asked(q)
@@ -116,10 +116,10 @@ func misput(c *court, at int) bool {
 	q := c.order[position-1]
 	if x, is := puts(h); is {
 		now := c.has(at, position)
-		return !c.effects[position] || q.Kind != api.ReqPut || q.Name != c.names[at] || q.Version != h.Version || !now.alike(x)
+		return !c.effects[position-1] || q.Kind != api.ReqPut || q.Name != c.names[at] || q.Version != h.Version || !now.alike(x)
 	}
 	if h.Kind == api.OpRotate {
-		return !c.effects[position] || q.Kind != api.ReqEpoch || q.Version != h.Version
+		return !c.effects[position-1] || q.Kind != api.ReqEpoch || q.Version != h.Version
 	}
 	return false
 }
