@@ -5,6 +5,7 @@ import (
 	"testing"
 
 	"sealchain/api"
+	"sealchain/chain"
 	"sealchain/pack"
 	"sealchain/table"
 )
@@ -94,27 +95,42 @@ func (c *chaos) check() {
 	}
 }
 
-// checkTables holds all tables against the order.
+// checkTables holds all tables against the order: who knows only an older configuration may have entries that the order will never have.
 func (c *chaos) checkTables() {
+	newest := 0
+	for n := range c.confs {
+		newest = max(newest, n)
+	}
 	for id := 10; id < 14; id++ {
 		m, is := c.w.replica(id)
 		if !is || !m.up || !m.node.Has() {
 			continue
 		}
 		r := m.node
-		t := table.New()
-		for i := range min(r.Last(), len(c.order)) {
-			t.Do(c.order[i])
+		n, own := c.common(r)
+		if n < min(r.Last(), len(c.order)) && r.Conf().Num == newest {
+			c.t.Fatal("other entries than the order", id, n, r.Last(), len(c.order))
 		}
-		for i, q := range r.Entries() {
-			if n := r.Base() + 1 + i; n > len(c.order) {
-				t.Do(q)
-			}
+		t := table.New()
+		for _, q := range append(c.order[:n:n], own...) {
+			t.Do(q)
 		}
 		if r.Base() <= len(c.order) && !bytes.Equal(t.Bytes(), r.Table()) {
 			c.t.Fatal("a table is not the result of the order", id, r.Base(), r.Last(), len(c.order))
 		}
 	}
+}
+
+// common is up to where a replica has the order, and the entries that it has behind that.
+func (c *chaos) common(r *chain.Replica) (int, []api.Req) {
+	entries := r.Entries()
+	for i, q := range entries {
+		n := r.Base() + i
+		if n >= len(c.order) || !pack.Same(api.Packet{Req: q}, api.Packet{Req: c.order[n]}) {
+			return min(n, len(c.order)), entries[i:]
+		}
+	}
+	return min(r.Last(), len(c.order)), nil
 }
 
 // checkHistory finds a request for each operation that was confirmed.
