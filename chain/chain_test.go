@@ -196,6 +196,8 @@ func TestRows(t *testing.T) {
 		{raw(num.Write().Num(1, 2).Count(1).Text(odd))},
 		{raw(num.Write().Num(1, 2).Count(1).Text([]byte{9}))},
 		{snap(conf(1, 1, 10), 2, 5, full)},
+		{snap(conf(1, 1, 10), 2, 0, nil)},
+		{snap(conf(1, 1, 10), 0, 0, []byte{0})},
 		{snap(conf(1, 1, 10), 1, 5, []byte{0})},
 		{snap(conf(1, 1, 10), 0, 5, nil)},
 		{snap(conf(1, 1, 10), 0, 0, full)},
@@ -373,6 +375,13 @@ func TestCompact(t *testing.T) {
 	if len(out) != 3 || !out[2].Ready || out[2].To != 2 {
 		t.Error(out)
 	}
+	for n := 17; n <= 32; n++ {
+		one.Tick()
+		stands(t, one, true, 16, n-1, n-1)
+		one.Handle(req(10, get(0, n)))
+	}
+	one.Tick()
+	stands(t, one, true, 32, 32, 32)
 	d := disk.New()
 	middle := made(t, 11, 3, d)
 	for n := 1; n <= 48; n++ {

@@ -322,6 +322,71 @@ func TestOperations(t *testing.T) {
 	}
 }
 
+// P21.2, P21.3: the longest value and key, and another client's node.
+func TestLongest(t *testing.T) {
+	b := newBench(t, true)
+	value, key := bytes.Repeat([]byte("v"), 250), bytes.Repeat([]byte("k"), 16)
+	expect(t, b.does(api.Deed{Kind: api.OpPut, Key: key, Value: value}), api.OK, "", false, 1, 1)
+	expect(t, b.does(api.Deed{Kind: api.OpGet, Key: key}), api.OK, string(value), false, 1, 1)
+	c, e := New(2, 2, 20, b.mode, b.tape, disk.New())
+	if e != api.OK {
+		t.Fatal(e)
+	}
+	told := api.Packet{Kind: api.PkConf, To: 22, Conf: api.Config{Full: 1, Chain: []int{12}}}
+	if c.Handle(told) != api.OK || c.Ask(api.Deed{Kind: api.OpGet, Key: k}) != api.OK {
+		t.Error("its own node")
+	}
+	if out, _ := c.Tick(); len(out) != 1 || out[0].From != 22 || out[0].To != 12 {
+		t.Error(out)
+	}
+	told.To = 20
+	if c.Handle(told) != api.ErrArg {
+		t.Error("another node")
+	}
+}
+
+// P21.2: only a key is named: what has none leaves the names of the mode as they are.
+func TestNoKey(t *testing.T) {
+	for _, kind := range []int{api.OpRotate, api.OpSweep} {
+		b, other := newBench(t, true), newBench(t, true)
+		b.does(api.Deed{Kind: kind})
+		if b.name("x") != other.name("x") {
+			t.Error(kind)
+		}
+	}
+}
+
+// P21.3: an answer's Version is an epoch to a rotation, and a sweep takes only names after the cursor.
+func TestEpochCursor(t *testing.T) {
+	for i, c := range []struct {
+		code, version, epoch int
+		want                 api.Errno
+	}{
+		{api.AnsOK, 4, 4, api.OK},
+		{api.AnsNo, 9, 9, api.ErrVersion},
+		{api.AnsNo, 255, 255, api.ErrVersion},
+		{api.AnsNo, 2, 3, api.ErrVersion},
+		{api.AnsNo, 256, 3, api.ErrTamper},
+	} {
+		b := seenTwo(t)
+		b.ask(api.Deed{Kind: api.OpRotate})
+		b.sent()
+		b.answers(api.Ans{Code: c.code, Version: c.version})
+		if got := b.done(); got.Code != c.want || b.c.Epoch() != c.epoch {
+			t.Error(i, got, b.c.Epoch())
+		}
+	}
+	b := seenTwo(t)
+	for i, want := range []api.Errno{api.OK, api.ErrTamper} {
+		b.ask(api.Deed{Kind: api.OpSweep})
+		b.sent()
+		b.answers(api.Ans{Version: 3 + i, Name: b.name("k"), Env: b.env("k", 3+i, 3, "x")})
+		if got := b.done(); got.Code != want || b.c.Cursor() != b.name("k") {
+			t.Error(i, got)
+		}
+	}
+}
+
 // P21.2: puts that others overtake, again and again.
 func TestPutAgain(t *testing.T) {
 	b := newBench(t, true)

@@ -75,6 +75,11 @@ func TestWrite(t *testing.T) {
 	}
 	d.Crash(0)
 	expect(t, d.Write(big), api.ErrDead)
+	d.Revive()
+	expect(t, d.Swap(big), api.OK, d.Cut(0), api.OK)
+	if len(d.Read()) != 0 || d.Synced() != 0 {
+		t.Error("Cut to nothing")
+	}
 }
 
 // P13.2: Sync, Swap and Cut.
@@ -85,7 +90,7 @@ func TestSync(t *testing.T) {
 	if d.Synced() != 0 || len(d.Read()) != 3 {
 		t.Error("an error changed something")
 	}
-	expect(t, d.Cut(2), api.OK)
+	expect(t, d.Cut(3), api.OK, d.Cut(2), api.OK)
 	if d.Synced() != 2 || !bytes.Equal(d.Read(), []byte{1, 2}) {
 		t.Error("Cut", d.Read())
 	}

@@ -164,6 +164,9 @@ func TestInvalid(t *testing.T) {
 		if r, at := Judge(m, with(change), nil); r != 1 || at != 1 {
 			t.Error(i, r, at)
 		}
+		if r, at := Judge(m, with(change)[1:], nil); r != 1 || at != 0 {
+			t.Error(i, r, at)
+		}
 	}
 	for i, change := range []func(h *api.Hist){
 		func(h *api.Hist) { h.Begin, h.End = 9, 0 }, func(h *api.Hist) { h.First, h.Last = 0, 0 }, func(h *api.Hist) { h.Code = api.ErrEpoch },
@@ -281,6 +284,13 @@ func TestConfirmed(t *testing.T) {
 		{op(api.OpRotate, 0, 2, ""), []api.Req{raise(1, 1, 1)}, 7},
 		{op(api.OpRotate, 0, 1, ""), []api.Req{get(m, 1, 1, "k")}, 7},
 		{op(api.OpRotate, api.ErrVersion, 9, ""), []api.Req{raise(1, 1, 2)}, 0},
+		// What another one did is no effect of its own.
+		{op(api.OpPut, 0, 1, "x"), []api.Req{put(m, 1, 1, "k", 1, "x")}, 7},
+		{op(api.OpRotate, 0, 1, ""), []api.Req{raise(0, 2, 1), raise(1, 1, 1)}, 7},
+		{op(api.OpRotate, 0, 2, ""), []api.Req{put(m, 1, 1, "k", 2, "x")}, 7},
+		{op(api.OpPut, api.ErrNone, 7, "y"), []api.Req{get(m, 1, 1, "k")}, 0},
+		{op(api.OpRotate, api.ErrNone, 7, ""), []api.Req{get(m, 1, 1, "k")}, 0},
+		{op(api.OpPutIf, api.ErrNone, 7, "y"), []api.Req{get(m, 1, 1, "k")}, 0},
 		{op(api.OpSweep, 0, 9, ""), []api.Req{get(m, 1, 1, "k")}, 0},
 		{op(api.OpSweep, 0, 9, ""), nil, 4},
 	} {
@@ -297,8 +307,23 @@ func TestConfirmed(t *testing.T) {
 	gone := api.Hist{Client: 1, Kind: api.OpGet, Key: k, Code: api.ErrNone, Tomb: true, Version: 2, Begin: 5, End: 6, First: 1, Last: 2}
 	order := append(slices.Clone(base), bury(m, 0, 2, "k", 2), get(m, 1, 1, "k"), sealed(m, 1, 2, "k", 3, 1, "", true))
 	judged(t, "tombstone", m, []api.Hist{put1, dead, gone}, order, 0, 0)
+	read := gone
+	read.Code = api.OK
+	judged(t, "a tombstone is no value", m, []api.Hist{put1, dead, read}, order, 6, 2)
 	gone.Version = 3
 	judged(t, "the second request", m, []api.Hist{put1, dead, gone}, order, 6, 2)
+}
+
+// P25.2: rule 7: a put counts for the key of its operation alone.
+func TestOtherKey(t *testing.T) {
+	m := realMode(t)
+	things := []api.Hist{
+		{Kind: api.OpPut, Key: []byte("j"), Value: []byte("x"), Begin: 1, First: 1, Last: 1},
+		{Kind: api.OpPut, Key: []byte("k"), Value: []byte("x"), Begin: 1, First: 2, Last: 3},
+		{Client: 1, Kind: api.OpPut, Key: []byte("k"), Value: []byte("x"), Version: 2, Begin: 1, End: 2, First: 1, Last: 1},
+	}
+	order := []api.Req{put(m, 0, 1, "j", 1, "x"), put(m, 0, 2, "k", 1, "x"), put(m, 0, 3, "k", 2, "x"), put(m, 1, 1, "j", 2, "x")}
+	judged(t, "another key", m, things, order, 7, 2)
 }
 
 // P25.2: rule 5 needs one to begin after another one has ended.

@@ -146,7 +146,7 @@ func TestPromise(t *testing.T) {
 		}
 	}
 	l.Promise(2, b, []api.Vote{vote(4, conf(3, 10)), vote(5, conf(2, 10)), vote(0, conf(4, 10)), vote(b, conf(5, 10)), vote(b-1, conf(6, 13)), vote(-1, conf(7, 10))})
-	if is, e := l.Promise(2, b, []api.Vote{vote(4, conf(3, 11)), vote(7, conf(3, 12)), vote(6, conf(3, 13))}); is || e != api.OK {
+	if is, e := l.Promise(2, b, []api.Vote{vote(4, conf(3, 11)), vote(7, conf(3, 12)), vote(7, conf(3, 10)), vote(6, conf(3, 13))}); is || e != api.OK {
 		t.Error(is, e)
 	}
 	for n, want := range map[int]api.Config{2: {}, 3: conf(3, 12), 4: {}, 5: {}, 6: conf(6, 13), 7: {}} {

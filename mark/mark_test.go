@@ -210,8 +210,13 @@ func TestMemory(t *testing.T) {
 	if m.Judge(n1, 2, []byte("env")) != api.OK {
 		t.Error("kept")
 	}
+	m.Born()
+	m.Raise(2)
 	before := m.Bytes()
 	c := m.Copy()
+	if !bytes.Equal(c.Bytes(), before) {
+		t.Error("a copy differs")
+	}
 	c.Note(n1, 3, ea)
 	c.Note(n2, 3, ea)
 	c.Born()

@@ -299,6 +299,212 @@ func TestRepeat(t *testing.T) {
 	}
 }
 
+// P17.2: what learning starts anew, and what it writes.
+func TestLearn(t *testing.T) {
+	d := disk.New()
+	m := made(t, 0, 3, 2, 3, d)
+	m.Tick()
+	m.Tick()
+	m.Handle(confTo(1, 0, conf(4, 1, 12, 10)))
+	if len(d.Trace()) != 2 || m.Promised() != 1 {
+		t.Error("it votes for what it learns, and forgets the rest", len(d.Trace()), m.Promised())
+	}
+	m.Tick()
+	if !slices.Equal(m.Late(), []int{11}) {
+		t.Error(m.Late())
+	}
+	// With a vote for exactly that configuration there is nothing to vote for.
+	m.Handle(api.Packet{Kind: api.PkAcc, From: 1, Ballot: 7, Seq: 5, Conf: conf(5, 1, 10, 11)})
+	m.Handle(confTo(1, 0, conf(5, 1, 10, 11)))
+	if len(d.Trace()) != 4 || m.Promised() != 7 || m.Conf().Num != 5 {
+		t.Error(len(d.Trace()), m.Promised(), m.Conf())
+	}
+	for n, c := range []api.Config{conf(6, 1, 10, 11), conf(7, 2, 10, 12), conf(8, 1, 12, 10)} {
+		m.Handle(api.Packet{Kind: api.PkAcc, From: 1, Ballot: 7, Seq: c.Num, Conf: conf(c.Num, 1, 10, 12)})
+		before := len(d.Trace())
+		m.Handle(confTo(1, 0, c))
+		if len(d.Trace()) != before+2 || !same(m.Conf(), c) {
+			t.Error(n, len(d.Trace())-before, m.Conf())
+		}
+	}
+	// Whoever has forgotten more than it knows can't vote for what lies between.
+	d = disk.New()
+	v, _ := vote.Open(d)
+	v.Forget(5)
+	m = made(t, 0, 3, 2, 3, d)
+	m.Handle(confTo(1, 0, conf(3, 1, 11)))
+	if m.Conf().Num != 0 {
+		t.Error(m.Conf())
+	}
+	// What is not learned leaves the leader as it is.
+	m = asking(t, disk.New())
+	m.Handle(confTo(1, 0, conf(0, 1, 11)))
+	for n := 1; n <= 8; n++ {
+		m.Handle(api.Packet{Kind: api.PkAcc, From: 1, Ballot: 4, Seq: n, Conf: conf(n, 1, 10)})
+	}
+	m.Handle(confTo(1, 0, conf(9, 1, 11)))
+	if m.Conf().Num != 0 || m.Phase() != 1 {
+		t.Error(m.Conf(), m.Phase())
+	}
+}
+
+// P17.2: a replica that is not of the group, and other nodes, are not alive.
+func TestNotAlive(t *testing.T) {
+	m := made(t, 0, 3, 2, 3, disk.New())
+	m.Handle(confTo(1, 0, conf(5, 1, 10, 13)))
+	for _, from := range []int{1, 2, 13, 20, 22} {
+		for _, n := range []int{0, 5} {
+			out, e := m.Handle(alive(from, 0, n))
+			expect(t, "not alive", out, e)
+		}
+	}
+	if !slices.Equal(m.Ready(), []int{10}) {
+		t.Error(m.Ready())
+	}
+}
+
+// P17.2: for how long each master waits.
+func TestPatience(t *testing.T) {
+	for id := range 3 {
+		m := made(t, id, 2, 2, 1000, disk.New())
+		m.Handle(confTo((id+1)%3, id, conf(1, 1, 10)))
+		ticks := 0
+		for m.Phase() == 0 && ticks < 50 {
+			m.Tick()
+			ticks++
+		}
+		if ticks != 2+8*id {
+			t.Error(id, ticks)
+		}
+	}
+}
+
+// wanting is master 0 that has another chain to want, as long as both replicas that it wants are heard.
+func wanting(t *testing.T) *Master {
+	t.Helper()
+	m := made(t, 0, 3, 2, 9, disk.New())
+	m.Handle(confTo(1, 0, conf(1, 1, 10)))
+	if !m.wants() {
+		t.Fatal("it wants nothing")
+	}
+	return m
+}
+
+// P17.2: wanting for long enough, without a break.
+func TestWants(t *testing.T) {
+	m := wanting(t)
+	m.Tick()
+	if m.Phase() != 0 {
+		t.Error("too early")
+	}
+	m.Tick()
+	if m.Phase() != 1 {
+		t.Error("too late")
+	}
+	m = wanting(t)
+	m.Tick()
+	m.Handle(api.Packet{Kind: api.PkPrep, From: 1, Ballot: 4, Seq: 2})
+	m.Tick()
+	if m.Phase() != 0 {
+		t.Error("it has promised another one")
+	}
+	m.Tick()
+	if m.Phase() != 1 {
+		t.Error("too late")
+	}
+	m = wanting(t)
+	m.Tick()
+	m.Handle(confTo(1, 0, conf(2, 1, 12)))
+	m.Tick()
+	if m.Phase() != 0 {
+		t.Error("it has learned another one")
+	}
+}
+
+// P17.2: it stops wanting, and begins anew.
+func TestBreak(t *testing.T) {
+	m := made(t, 0, 2, 2, 2, disk.New())
+	tick := func(nodes ...int) {
+		m.Tick()
+		for _, node := range nodes {
+			m.Handle(alive(node, 0, 0))
+		}
+	}
+	tick(10)
+	tick(10)     // 11 is late now
+	tick(10, 11) // wanted for two ticks would start
+	if m.Phase() == 0 {
+		t.Fatal("it has not begun")
+	}
+	m = made(t, 0, 2, 2, 2, disk.New())
+	tick(10)
+	tick(10, 11) // wanted for one tick
+	tick(10)     // not any more
+	tick(10)     // wanted for one tick again
+	if m.Phase() != 0 {
+		t.Error("a break counts")
+	}
+}
+
+// P17.2: a leader goes on to lead, and stale packets do nothing.
+func TestLeads(t *testing.T) {
+	lead := func() *Master {
+		m := asking(t, disk.New())
+		m.Handle(api.Packet{Kind: api.PkProm, From: 2, Ballot: 6, Seq: 1})
+		if m.Phase() != 1 {
+			t.Error("a promise of another ballot")
+		}
+		m.Handle(api.Packet{Kind: api.PkProm, From: 2, Ballot: 3, Seq: 0})
+		if m.Phase() != 1 {
+			t.Error("a promise from 0 on")
+		}
+		m.Handle(api.Packet{Kind: api.PkProm, From: 2, Ballot: 3, Seq: 1, Votes: []api.Vote{{Ballot: 1, Conf: conf(1, 1, 10)}}})
+		m.Handle(api.Packet{Kind: api.PkYes, From: 1, Ballot: 3, Seq: 1})
+		if m.Phase() != 2 || !same(m.Conf(), conf(1, 1, 10)) || !m.wants() {
+			t.Fatal(m.Conf(), m.Phase())
+		}
+		return m
+	}
+	acc := func(to int, c api.Config) api.Packet {
+		return api.Packet{Kind: api.PkAcc, To: to, Ballot: 3, Seq: 2, Conf: c}
+	}
+	m := lead()
+	for _, p := range []api.Packet{
+		{Kind: api.PkProm, From: 1, Ballot: 0, Seq: 1},
+		{Kind: api.PkProm, From: 1, Ballot: 3, Seq: 0},
+		{Kind: api.PkProm, From: 10, Ballot: 3, Seq: 1},
+		{Kind: api.PkYes, From: 2, Ballot: 3, Seq: 1},
+		{Kind: api.PkYes, From: 10, Ballot: 3, Seq: 1},
+	} {
+		out, e := m.Handle(p)
+		expect(t, "stale", out, e)
+	}
+	next := conf(2, 1, 10, 12)
+	out, e := m.Handle(api.Packet{Kind: api.PkProm, From: 1, Ballot: 3, Seq: 1})
+	expect(t, "another promise", out, e, acc(1, next), acc(2, next))
+	m = lead()
+	out, e = m.Tick()
+	expect(t, "a tick", out, e, acc(1, next), acc(2, next))
+	out, e = m.Tick()
+	expect(t, "a tick", out, e, acc(1, next), acc(2, next))
+	if m.Phase() != 2 {
+		t.Error("who leads does not start")
+	}
+}
+
+// P17.2: no ballot is left.
+func TestNoBallot(t *testing.T) {
+	m := wanting(t)
+	m.Handle(api.Packet{Kind: api.PkNo, From: 1, Ballot: api.MaxNumber})
+	for range 8 {
+		out, e := m.Tick()
+		expect(t, "no ballot", out, e)
+	}
+	if m.Phase() != 0 || m.wanted != 8 {
+		t.Error(m.Phase(), m.wanted)
+	}
+}
+
 // P17.3: the wanted chain, from what is ready and late.
 func TestWanted(t *testing.T) {
 	m := made(t, 0, 4, 3, 2, disk.New())

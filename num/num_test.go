@@ -76,31 +76,40 @@ func TestWriter(t *testing.T) {
 func TestReaderErrors(t *testing.T) {
 	cases := []struct {
 		b    []byte
-		read func(r *Reader)
+		read func(r *Reader) any
 		want api.Errno
 	}{
-		{[]byte{1, 2, 3}, func(r *Reader) { r.Num(3) }, api.ErrArg},
-		{nil, func(r *Reader) { r.Num(0) }, api.ErrArg},
-		{[]byte{1}, func(r *Reader) { r.Num(2) }, api.ErrTrunc},
-		{[]byte{0, 0x20, 0, 0, 0, 0, 0, 0}, func(r *Reader) { r.Num(8) }, api.ErrRange},
-		{[]byte{255, 255, 255, 255, 255, 255, 255, 255}, func(r *Reader) { r.Num(8) }, api.ErrRange},
-		{[]byte{0x80, 1}, func(r *Reader) { r.Count(9) }, api.ErrForm},
-		{[]byte{0x80}, func(r *Reader) { r.Count(9) }, api.ErrForm},
-		{[]byte{0x82}, func(r *Reader) { r.Count(9) }, api.ErrTrunc},
-		{nil, func(r *Reader) { r.Count(9) }, api.ErrTrunc},
-		{[]byte{0x0A}, func(r *Reader) { r.Count(9) }, api.ErrLimit},
-		{[]byte{0}, func(r *Reader) { r.Count(-1) }, api.ErrLimit},
-		{[]byte{0x81, 0x80, 0x80, 0x80, 0x80, 0x80, 0x80, 0x80}, func(r *Reader) { r.Count(9) }, api.ErrForm},
-		{[]byte{0x81, 0x80, 0x80, 0x80, 0x80, 0x80, 0x80}, func(r *Reader) { r.Count(9) }, api.ErrTrunc},
-		{[]byte{0x90, 0x80, 0x80, 0x80, 0x80, 0x80, 0x80, 0}, func(r *Reader) { r.Count(9) }, api.ErrRange},
-		{[]byte{2, 7}, func(r *Reader) { r.Text(9) }, api.ErrTrunc},
-		{[]byte{2, 7, 8}, func(r *Reader) { r.Text(1) }, api.ErrLimit},
-		{[]byte{1}, func(r *Reader) { r.Raw(-1) }, api.ErrArg},
-		{[]byte{1}, func(r *Reader) { r.Raw(2) }, api.ErrTrunc},
+		{[]byte{1, 2, 3}, func(r *Reader) any { return r.Num(3) }, api.ErrArg},
+		{nil, func(r *Reader) any { return r.Num(0) }, api.ErrArg},
+		{[]byte{1}, func(r *Reader) any { return r.Num(2) }, api.ErrTrunc},
+		{[]byte{0, 0x20, 0, 0, 0, 0, 0, 0}, func(r *Reader) any { return r.Num(8) }, api.ErrRange},
+		{[]byte{255, 255, 255, 255, 255, 255, 255, 255}, func(r *Reader) any { return r.Num(8) }, api.ErrRange},
+		{[]byte{0x80, 1}, func(r *Reader) any { return r.Count(9) }, api.ErrForm},
+		{[]byte{0x80}, func(r *Reader) any { return r.Count(9) }, api.ErrForm},
+		{[]byte{0x82}, func(r *Reader) any { return r.Count(9) }, api.ErrTrunc},
+		{nil, func(r *Reader) any { return r.Count(9) }, api.ErrTrunc},
+		{[]byte{0x0A}, func(r *Reader) any { return r.Count(9) }, api.ErrLimit},
+		{[]byte{0}, func(r *Reader) any { return r.Count(-1) }, api.ErrLimit},
+		{[]byte{0x81, 0x80, 0x80, 0x80, 0x80, 0x80, 0x80, 0x80}, func(r *Reader) any { return r.Count(9) }, api.ErrForm},
+		{[]byte{0x81, 0x80, 0x80, 0x80, 0x80, 0x80, 0x80}, func(r *Reader) any { return r.Count(9) }, api.ErrTrunc},
+		{[]byte{0x90, 0x80, 0x80, 0x80, 0x80, 0x80, 0x80, 0}, func(r *Reader) any { return r.Count(9) }, api.ErrRange},
+		{[]byte{2, 7}, func(r *Reader) any { return r.Text(9) }, api.ErrTrunc},
+		{[]byte{2, 7, 8}, func(r *Reader) any { return r.Text(1) }, api.ErrLimit},
+		{[]byte{1}, func(r *Reader) any { return r.Raw(-1) }, api.ErrArg},
+		{[]byte{1}, func(r *Reader) any { return r.Raw(2) }, api.ErrTrunc},
 	}
 	for i, c := range cases {
 		r := Read(c.b)
-		c.read(r)
+		switch x := c.read(r).(type) {
+		case int:
+			if x != 0 {
+				t.Errorf("%d: %d", i, x)
+			}
+		case []byte:
+			if x != nil {
+				t.Errorf("%d: %x", i, x)
+			}
+		}
 		if r.Err() != c.want || r.End() != c.want || r.Left() != 0 {
 			t.Errorf("%d: %d, %d left", i, r.Err(), r.Left())
 		}

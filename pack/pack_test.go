@@ -100,7 +100,10 @@ func TestCheckReq(t *testing.T) {
 			t.Error(i)
 		}
 	}
-	for i, r := range []api.Req{put, with(func(r *api.Req) { r.Env = make([]byte, 1024) }), {Num: 1, Kind: api.ReqNext, Env: []byte{}}} {
+	for i, r := range []api.Req{
+		put, with(func(r *api.Req) { r.Env = make([]byte, 1024) }), with(func(r *api.Req) { r.Version, r.Env = 1, []byte{0} }),
+		{Num: 1, Kind: api.ReqNext, Env: []byte{}}, {Num: 1, Kind: api.ReqEpoch, Version: 1},
+	} {
 		if CheckReq(r) != api.OK {
 			t.Error(i)
 		}
@@ -134,6 +137,9 @@ func TestCheckParts(t *testing.T) {
 		if b, e := BytesAns(a); CheckAns(a) != api.ErrArg || e != api.ErrArg || b != nil {
 			t.Error(i)
 		}
+	}
+	if CheckAns(api.Ans{Num: 1}) != api.OK || CheckAns(with(func(a *api.Ans) { a.Env = make([]byte, 1024) })) != api.OK {
+		t.Error("the least answer, and the longest one")
 	}
 	want, _ := num.Write().Num(1, 2).Count(1).Num(1, 2).Count(9).Num(1, 255).Raw(some[:]).Text([]byte{3}).Bytes()
 	if b, e := BytesAns(ans); CheckAns(ans) != api.OK || e != api.OK || !bytes.Equal(b, want) {
@@ -361,6 +367,12 @@ func TestSameCopy(t *testing.T) {
 	}
 	if !Same(api.Packet{Bytes: []byte{}, Votes: []api.Vote{}}, api.Packet{}) {
 		t.Error("empty lists")
+	}
+	one := api.Packet{Votes: []api.Vote{{Ballot: 1, Conf: conf2}}}
+	for i, v := range []api.Vote{{Ballot: 2, Conf: conf2}, {Ballot: 1, Conf: api.Config{Num: 2, Full: 1, Chain: []int{11}}}} {
+		if Same(one, api.Packet{Votes: []api.Vote{v}}) {
+			t.Error("votes", i)
+		}
 	}
 	changes := []func(p *api.Packet){
 		func(p *api.Packet) { p.Kind++ }, func(p *api.Packet) { p.From++ }, func(p *api.Packet) { p.To++ },

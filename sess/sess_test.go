@@ -103,6 +103,7 @@ func TestAsk(t *testing.T) {
 			t.Error(i, e)
 		}
 	}
+	made(t, 0, 1, 1, 1)
 	s := made(t, 2, api.MaxNumber, 1000, 100000)
 	for i, r := range []api.Req{
 		{}, {Kind: 9}, {Kind: api.ReqGet, Version: 1}, {Kind: api.ReqPut, Version: 1, Env: []byte{1}},

@@ -274,12 +274,17 @@ func TestMemory(t *testing.T) {
 	_, got := b.Get(n1)
 	clear(got)
 	clear(b.Names())
+	b.Do(api.Req{Client: 0, Num: 1, Kind: api.ReqEpoch, Version: 1})
 	c := b.Copy()
+	if !bytes.Equal(c.Bytes(), b.Bytes()) {
+		t.Error("a copy differs")
+	}
 	c.Do(asPut(3, n1, 2, y))
-	c.Do(api.Req{Client: 2, Num: 1, Kind: api.ReqEpoch, Version: 1})
+	c.Do(api.Req{Client: 2, Num: 1, Kind: api.ReqEpoch, Version: 2})
 	want := New()
 	want.Do(asPut(1, n1, 1, x))
 	want.Do(get)
+	want.Do(api.Req{Client: 0, Num: 1, Kind: api.ReqEpoch, Version: 1})
 	if !bytes.Equal(b.Bytes(), want.Bytes()) {
 		t.Error("shared")
 	}

@@ -84,6 +84,9 @@ func TestScan(t *testing.T) {
 	if e != api.OK || len(b) != 40008 || !bytes.Equal(b[:4], []byte{0x9C, 0x40, 0x63, 0xBF}) || !bytes.Equal(b[40004:], sum[:4]) {
 		t.Error(e)
 	}
+	if rows, whole, e := Scan(b); e != api.OK || whole != 40008 || len(rows) != 1 {
+		t.Error(whole, e)
+	}
 	// A record of a row that is too long, but right otherwise.
 	long := append([]byte{0x9C, 0x41, 0x63, 0xBE}, make([]byte, 40001)...)
 	sum = sha.Sum(long)
@@ -177,6 +180,13 @@ func TestAddSwap(t *testing.T) {
 	}
 	if l.Swap() != api.OK || l.Len() != 0 || len(d.Read()) != 0 {
 		t.Error("Swap without rows")
+	}
+	if l.Swap(many...) != api.OK {
+		t.Error("many")
+	}
+	d.Crash(0)
+	if l.Add(long[:8361]) != api.ErrLimit || l.Swap(append(many, long[:40000])...) != api.ErrLimit || l.Dead() || l.Add(long[:8360]) != api.ErrDead {
+		t.Error("too much is told before the disk is asked")
 	}
 }
 

@@ -7,7 +7,9 @@ import (
 
 	"sealchain/api"
 	"sealchain/pack"
+	"sealchain/seal"
 	"sealchain/table"
+	"sealchain/tape"
 )
 
 var k = []byte("k")
@@ -322,6 +324,9 @@ func TestRows(t *testing.T) {
 	}
 	w.Arm(11, 3)
 	w.Deliver(0)
+	if wrote := count(w, api.RowWrote, 10); wrote != 1 {
+		t.Error("what was written has one row", wrote)
+	}
 	rows = w.Rows()[3:]
 	if w.Up(11) || len(rows) != 2 || rows[0].Kind != api.RowCame || rows[1].Kind != api.RowWrote || rows[1].Node != 11 {
 		t.Error(rows)
@@ -339,6 +344,94 @@ func TestRows(t *testing.T) {
 	w.Deliver(w.Len() - 1)
 	if len(w.Rows()) != 5 {
 		t.Error("no node, no row")
+	}
+}
+
+// count is how many rows of a kind a node has.
+func count(w *World, kind, node int) int {
+	n := 0
+	for _, r := range w.Rows() {
+		if r.Kind == kind && r.Node == node {
+			n++
+		}
+	}
+	return n
+}
+
+// Rows are those of servers alone, one for each thing that was written.
+func TestWritten(t *testing.T) {
+	w := made(t, 1, 1, 5, false)
+	for n := 1; n <= 3; n++ {
+		does(t, w, 0, put("k", "v"))
+		if wrote := count(w, api.RowWrote, 10); wrote != n {
+			t.Error(n, wrote)
+		}
+	}
+	for _, r := range w.Rows() {
+		if r.Node >= 20 {
+			t.Error(r)
+		}
+	}
+}
+
+// P23.2: a tick in which a disk fails.
+func TestTickDown(t *testing.T) {
+	w := made(t, 1, 1, 5, false)
+	for w.Last(10) < 31 {
+		does(t, w, 0, get("k"))
+	}
+	w.Feed(api.Packet{Kind: api.PkConf, From: 0, To: 21, Conf: api.Config{Full: 1, Chain: []int{10}}})
+	w.Ask(1, get("k"))
+	w.Tick(21)
+	w.Deliver(w.Len() - 1)
+	w.Arm(10, 0)
+	if e := w.Tick(10); w.Last(10) != 0 || e != api.ErrDown || w.Up(10) {
+		t.Error(e)
+	}
+	if e := w.Restart(10); e != api.OK || w.Last(10) != 32 {
+		t.Error(e, w.Last(10))
+	}
+}
+
+// P23.2: an operation that ends as soon as it is given.
+func TestAtOnce(t *testing.T) {
+	w := made(t, 1, 1, 5, true)
+	name, _ := w.Mode().Name(k)
+	env, e := seal.Seal(w.Mode(), tape.New(nil), name, api.MaxNumber, 0, nil, false)
+	if e != api.OK {
+		t.Fatal(e)
+	}
+	w.Ask(0, get("k"))
+	w.Feed(api.Packet{Kind: api.PkAns, From: 10, To: 20, Ans: api.Ans{Num: 1<<20 + 1, Version: api.MaxNumber, Name: name, Env: env}})
+	if h := w.History(); h[0].Code != api.OK || h[0].Version != api.MaxNumber || h[0].End != 2 {
+		t.Error(h)
+	}
+	if e := w.Ask(0, put("k", "v")); e != api.OK || w.Busy(0) {
+		t.Error(e)
+	}
+	if h := w.History()[1]; h.Code != api.ErrLimit || h.Num != 2 || h.Begin != 3 || h.End != 3 || h.First != 0 || h.Last != 0 {
+		t.Error(h)
+	}
+}
+
+// P23.4: a node that can't be made from its disk stays down.
+func TestSpoilt(t *testing.T) {
+	w := made(t, 1, 1, 5, true)
+	w.Crash(10, 0)
+	w.Crash(21, 0)
+	for _, id := range []int{10, 21} {
+		x, _ := w.part(id)
+		x.storage().Revive()
+		x.storage().Swap([]byte{0x80, 0x80, 0x80, 0x80})
+	}
+	if e := w.Restart(10); e != api.ErrSpoil || w.Up(10) {
+		t.Error(e)
+	}
+	if e := w.Restart(21); e != api.ErrForm || w.Up(21) || w.Busy(1) {
+		t.Error(e)
+	}
+	if w.Heal(5) != 0 || w.Up(10) {
+		t.Error("healed")
 	}
 }
 
