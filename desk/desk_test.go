@@ -6,8 +6,12 @@ import (
 	"testing"
 
 	"sealchain/api"
+	"sealchain/mode"
 	"sealchain/num"
 	"sealchain/pack"
+	"sealchain/seal"
+	"sealchain/sha"
+	"sealchain/tape"
 )
 
 // runs compares a script's output, both as lines separated by "; ".
@@ -162,6 +166,8 @@ func TestRounds(t *testing.T) {
 	hundred := strings.Repeat("; rounds 100", 5)
 	runs(t, `world 1 1 5 real s`+hundred+`; world 1 1 5 real s; rounds 99; rounds 2; round; round; rounds 1; heal 1; rounds 101; heal 0`,
 		`ok; came 297; came 300; came 300; came 300; came 300; ok; came 294; ! 5; came 3; ! 5; ! 5; ! 5; ! 2; ! 2`)
+	runs(t, `world 1 1 5 real s; get 0 k; heal 100`+hundred+`; rounds 96; rounds 95; round`,
+		`ok; ok; rounds 5; came 300; came 300; came 300; came 300; came 300; ! 5; came 285; ! 5`)
 	// A chain without its only replica: a client waits in vain.
 	runs(t, `world 1 1 5 real s; get 0 k; crash 10 0; heal 999; told; put 0 k v; crash 20 0; heal 600; heal 600`,
 		`ok; ok; ok; rounds 5; 0 1 1 210 0; ok; ok; rounds 0; rounds 0`)
@@ -175,6 +181,17 @@ func TestWash(t *testing.T) {
 		`ok; ok; ok; ok; rounds 5; washed 3 0; washed 3 0; ok; rounds 3; fine`)
 	runs(t, `world 1 1 5 real s; wash 0 2; show 20; wash 0 2; crash 10 0; rounds 9; show 20; wash 1 3; show 21`,
 		`ok; stopped 1; client busy epoch 0; ! 170; ok; came 24; client busy epoch 0; stopped 1; client busy epoch 0`)
+	runs(t, `world 1 1 5 real s; wash 0 1; heal 5; wash 0 -1`, `ok; stopped 1; rounds 4; ! 2`)
+	root := sha.Sum([]byte("s"))
+	m, _ := mode.Real(root[:])
+	name, _ := m.Name([]byte("k"))
+	env, e := seal.Seal(m, tape.New(nil), name, 5, 0, nil, false)
+	b, f := pack.Bytes(api.Packet{Kind: api.PkAns, From: 10, To: 20, Ans: api.Ans{Num: 1<<20 + 1, Version: 5, Name: name, Env: env}})
+	if e != api.OK || f != api.OK {
+		t.Fatal(e, f)
+	}
+	runs(t, `world 1 1 5 real s; put 1 k v; heal 50; get 0 k; feed `+Quote(string(b))+`; wash 0 50; told`,
+		`ok; ok; rounds 5; ok; ok; failed 100; 1 1 2 0 1; 0 1 1 0 5 ""; 0 2 5 0 1; 0 3 6 100 0`)
 	runs(t, `world 1 1 5 real s; arm 20 0; wash 0 10; show 20`, `ok; ok; stopped 1; down`)
 	runs(t, `world 1 1 5 real s`+strings.Repeat("; rounds 100", 6)+`; wash 0 10; show 20`,
 		`ok; came 297; came 300; came 300; came 300; came 300; came 300; stopped 1; client busy epoch 0`)
@@ -202,6 +219,8 @@ func TestShow(t *testing.T) {
 		`ok; ! 9; ! 9; ! 9; ! 9; ! 9; master conf 0 full 1 chain 10; replica conf 0 full 1 chain 10 last 0; ok; client busy epoch 0; ok; down; ! 9; ! 9; ! 9; many 0 0 0; many 0 0 0; order 0; ! 2; ! 2; ! 190; ok`)
 	runs(t, `world 1 1 5 real s; put 0 "" v; get 0 01234567890123456; put 0 k `+strings.Repeat("v", 251)+`; putif 0 k v -1; rotate 3; sweep 1; sweep 1; heal 9; told`,
 		`ok; ! 2; ! 2; ! 70; ! 2; ! 9; ok; ! 170; rounds 5; 1 1 6 210 0`)
+	runs(t, `world 4 4 5 real s`+strings.Repeat("; rounds 100", 6)+`; view; many 0; bag`,
+		`ok; came 1779; came 1800; came 1800; came 1800; came 1800; came 1800; ! 5; ! 5; bag 18`)
 	runs(t, `world 1 1 5 real s; view; tick 10; view; tick 0; twice 0; deliver 0; deliver 0; many 0`,
 		`ok; view 0 6e340b9cffb37a98; ok; view 3 6ab2eb2df7d2ac3e; ok; ok; ok; ok; many 1 0 0`)
 }
@@ -273,6 +292,29 @@ func TestFine(t *testing.T) {
 		if e != api.OK || strings.Contains(out, "broken") || !strings.HasSuffix(out, "fine\n") {
 			t.Error(seed, e)
 		}
+	}
+}
+
+// P26.5: what is under way has the requests behind those that belong to other operations.
+func TestAttributed(t *testing.T) {
+	history := []api.Hist{
+		{Client: 0, Begin: 1, End: 2, First: 1, Last: 2},
+		{Client: 1, Begin: 1, End: 2, First: 1, Last: 1},
+		{Client: 0, Begin: 3},
+		{Client: 2, Begin: 3, First: 5, Last: 6},
+	}
+	var order []api.Req
+	for _, q := range [][2]int{{0, 1}, {0, 2}, {1, 1}, {0, 4}, {0, 3}, {1, 2}, {2, 5}, {2, 6}} {
+		order = append(order, api.Req{Client: q[0], Num: q[1]})
+	}
+	want := [][2]int{{1, 2}, {1, 1}, {3, 4}, {5, 6}}
+	for i, h := range attributed(history, order) {
+		if h.First != want[i][0] || h.Last != want[i][1] {
+			t.Error(i, h.First, h.Last)
+		}
+	}
+	if h := attributed([]api.Hist{{Client: 0, Begin: 1}}, nil)[0]; h.First != 0 || h.Last != 0 {
+		t.Error(h)
 	}
 }
 

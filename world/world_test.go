@@ -414,6 +414,21 @@ func TestAtOnce(t *testing.T) {
 	}
 }
 
+// P23.1: for how long a client waits.
+func TestMost(t *testing.T) {
+	w := made(t, 1, 1, 3, true)
+	w.Ask(0, get("k"))
+	for n := range 261 {
+		if !w.Busy(0) {
+			t.Fatal("too early", n)
+		}
+		w.Tick(20)
+	}
+	if h := w.History()[0]; w.Busy(0) || h.Code != api.ErrTime || h.End != 262 || h.First != 1<<20+1 {
+		t.Error(h)
+	}
+}
+
 // P23.4: a node that can't be made from its disk stays down.
 func TestSpoilt(t *testing.T) {
 	w := made(t, 1, 1, 5, true)
