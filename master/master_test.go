@@ -450,13 +450,12 @@ func TestBreak(t *testing.T) {
 func TestLeads(t *testing.T) {
 	lead := func() *Master {
 		m := asking(t, disk.New())
-		m.Handle(api.Packet{Kind: api.PkProm, From: 2, Ballot: 6, Seq: 1})
+		out, e := m.Handle(api.Packet{Kind: api.PkProm, From: 2, Ballot: 6, Seq: 1})
+		expect(t, "a promise of another ballot", out, e)
+		out, e = m.Handle(api.Packet{Kind: api.PkProm, From: 2, Ballot: 3, Seq: 0})
+		expect(t, "a promise from 0 on", out, e)
 		if m.Phase() != 1 {
-			t.Error("a promise of another ballot")
-		}
-		m.Handle(api.Packet{Kind: api.PkProm, From: 2, Ballot: 3, Seq: 0})
-		if m.Phase() != 1 {
-			t.Error("a promise from 0 on")
+			t.Error(m.Phase())
 		}
 		m.Handle(api.Packet{Kind: api.PkProm, From: 2, Ballot: 3, Seq: 1, Votes: []api.Vote{{Ballot: 1, Conf: conf(1, 1, 10)}}})
 		m.Handle(api.Packet{Kind: api.PkYes, From: 1, Ballot: 3, Seq: 1})

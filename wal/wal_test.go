@@ -181,7 +181,10 @@ func TestAddSwap(t *testing.T) {
 	if l.Swap() != api.OK || l.Len() != 0 || len(d.Read()) != 0 {
 		t.Error("Swap without rows")
 	}
-	if l.Swap(many...) != api.OK {
+	if l.Swap(append(many, long[:8360])...) != api.OK || len(d.Read()) != 1<<20 {
+		t.Error("just enough")
+	}
+	if l.Swap(many[:25]...) != api.OK || l.Add(long[:40000]) != api.OK {
 		t.Error("many")
 	}
 	d.Crash(0)
