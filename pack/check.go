@@ -108,35 +108,27 @@ func Check(p api.Packet) api.Errno {
 	return told(good)
 }
 
+// only is x if a bit is set.
+func only[T any](bit int, x T) T {
+	var none T
+	if bit == 0 {
+		return none
+	}
+	return x
+}
+
 // reduced is what a packet would be with these fields alone.
 func reduced(p api.Packet, has int) api.Packet {
-	q := api.Packet{Kind: p.Kind, From: p.From, To: p.To}
-	if has&hasNum != 0 {
-		q.Num = p.Num
+	return api.Packet{
+		Kind: p.Kind, From: p.From, To: p.To,
+		Num:    only(has&hasNum, p.Num),
+		Seq:    only(has&hasSeq, p.Seq),
+		Ballot: only(has&hasBallot, p.Ballot),
+		Ready:  only(has&hasReady, p.Ready),
+		Req:    only(has&hasReq, p.Req),
+		Ans:    only(has&hasAns, p.Ans),
+		Conf:   only(has&hasConf, p.Conf),
+		Votes:  only(has&hasVotes, p.Votes),
+		Bytes:  only(has&hasBytes, p.Bytes),
 	}
-	if has&hasSeq != 0 {
-		q.Seq = p.Seq
-	}
-	if has&hasBallot != 0 {
-		q.Ballot = p.Ballot
-	}
-	if has&hasReady != 0 {
-		q.Ready = p.Ready
-	}
-	if has&hasReq != 0 {
-		q.Req = p.Req
-	}
-	if has&hasAns != 0 {
-		q.Ans = p.Ans
-	}
-	if has&hasConf != 0 {
-		q.Conf = p.Conf
-	}
-	if has&hasVotes != 0 {
-		q.Votes = p.Votes
-	}
-	if has&hasBytes != 0 {
-		q.Bytes = p.Bytes
-	}
-	return q
 }

@@ -47,10 +47,7 @@ func (w *World) asked(client int) int {
 
 // Tick is a tick of a node.
 func (w *World) Tick(node int) api.Errno {
-	if e := w.begin(); e != api.OK {
-		return e
-	}
-	x, e := w.upPart(node)
+	x, e := w.beginAt(node)
 	if e != api.OK {
 		return e
 	}
@@ -141,10 +138,7 @@ func (w *World) Feed(p api.Packet) api.Errno {
 
 // Arm lets the disk of a node fail.
 func (w *World) Arm(node, cut int) api.Errno {
-	if e := w.begin(); e != api.OK {
-		return e
-	}
-	x, e := w.upPart(node)
+	x, e := w.beginAt(node)
 	if e != api.OK {
 		return e
 	}
@@ -153,10 +147,7 @@ func (w *World) Arm(node, cut int) api.Errno {
 
 // Crash lets a node, and its disk, fail now.
 func (w *World) Crash(node, cut int) api.Errno {
-	if e := w.begin(); e != api.OK {
-		return e
-	}
-	x, e := w.upPart(node)
+	x, e := w.beginAt(node)
 	if e != api.OK {
 		return e
 	}
