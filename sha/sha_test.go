@@ -44,6 +44,37 @@ func TestLengths(t *testing.T) {
 	}
 }
 
+// P2.1: the constants are those of the roots, found anew and at package level.
+func TestConstants(t *testing.T) {
+	r := findRoots()
+	if r.squares[0] != 0x6a09e667 || r.squares[7] != 0x5be0cd19 || r.cubes[0] != 0x428a2f98 || r.cubes[63] != 0xc67178f2 {
+		t.Errorf("%x", r)
+	}
+	New()
+	if cubes != r.cubes || squares != r.squares {
+		t.Errorf("%x %x", cubes, squares)
+	}
+}
+
+// P2.1, P2.2: whatever stands at package level, the digests are the same.
+func TestNothingOutside(t *testing.T) {
+	New()
+	keptCubes, keptSquares := cubes, squares
+	defer func() { cubes, squares = keptCubes, keptSquares }()
+	half := New().Write(filled(100))
+	cubes, squares = [64]uint32{1, 2, 3}, [8]uint32{4, 5, 6}
+	for n := range 200 {
+		b := filled(n)
+		zero := &Hash{}
+		if want := sha256.Sum256(b); Sum(b) != want || zero.Write(b).Sum() != want {
+			t.Error(n)
+		}
+	}
+	if half.Write(filled(150)[100:]).Sum() != sha256.Sum256(filled(150)) || half.Copy().Len() != 150 {
+		t.Error("begun before")
+	}
+}
+
 // P2.2: parts, sums in between, nil and zero hashes.
 func TestHash(t *testing.T) {
 	h := New()
