@@ -56,6 +56,41 @@ func TestBlocks(t *testing.T) {
 	}
 }
 
+// P4.1, P4.2: the tables are the functions' answers, built anew and at package level.
+func TestTables(t *testing.T) {
+	New(counting(16))
+	table := allBoxes()
+	for i := range 256 {
+		a := byte(i)
+		if table[a] != Box(a) || boxes[a] != Box(a) || double(a) != Mul(a, 2) || doubles[a] != Mul(a, 2) {
+			t.Error(a)
+		}
+	}
+}
+
+// P4.1, P4.2: whatever stands at package level, the answers are the same.
+func TestNothingOutside(t *testing.T) {
+	begun, _ := New(counting(32))
+	keptBoxes, keptDoubles := boxes, doubles
+	defer func() { boxes, doubles = keptBoxes, keptDoubles }()
+	boxes, doubles = [256]byte{1, 2, 3}, [256]byte{4, 5, 6}
+	for _, n := range []int{16, 32} {
+		c, e := New(counting(n))
+		s, _ := stdaes.NewCipher(counting(n))
+		in, want := [16]byte{byte(n), 7: 0x77}, make([]byte, 16)
+		s.Encrypt(want, in[:])
+		if got := c.Block(in); e != api.OK || !bytes.Equal(got[:], want) {
+			t.Errorf("%d: %v %x", n, e, got)
+		}
+		if n == 32 && begun.Block(in) != c.Block(in) {
+			t.Error("begun before")
+		}
+	}
+	if Mul(0x57, 0x83) != 0xC1 || Inv(0x53) != 0xCA || Box(0x53) != 0xED || Box(0) != 0x63 {
+		t.Error("bytes")
+	}
+}
+
 // P4.2: other sizes of keys, nil and zero ciphers.
 func TestInvalid(t *testing.T) {
 	for _, n := range []int{0, 1, 15, 17, 24, 31, 33, 64} {
